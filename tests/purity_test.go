@@ -10,6 +10,8 @@ import (
 // span is the memory of a slice, its unused capacity included.
 type span struct {
 	from, to uintptr
+	// The numbers alone do not hold the memory: without its owner, another slice could get it before the spans are compared.
+	owner reflect.Value
 }
 
 // purely calls a function of the program twice and checks what promise 1 and the conventions ask of every function:
@@ -138,7 +140,7 @@ func spansOf(v reflect.Value) []span {
 		}
 	case reflect.Slice:
 		if v.Cap() > 0 {
-			spans = append(spans, span{v.Pointer(), v.Pointer() + uintptr(v.Cap())*v.Type().Elem().Size()})
+			spans = append(spans, span{v.Pointer(), v.Pointer() + uintptr(v.Cap())*v.Type().Elem().Size(), v})
 		}
 		for i := range v.Len() {
 			spans = append(spans, spansOf(v.Index(i))...)
